@@ -1,0 +1,1 @@
+"""Litmuscore: out-of-order multicore machines with an exact memory model."""
