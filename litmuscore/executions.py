@@ -119,11 +119,16 @@ def check(program, order, execution):
     return event_violation(program, order, runs, events)
 
 
-def outcome(program, order, execution):
-    """The states of the cores and the words of memory at the end of a valid execution."""
+def require_valid(program, order, execution):
+    """Raise InvalidExecution if the execution is not valid under the order."""
     violation = check(program, order, execution)
     if violation is not None:
         raise InvalidExecution(violation)
+
+
+def outcome(program, order, execution):
+    """The states of the cores and the words of memory at the end of a valid execution."""
+    require_valid(program, order, execution)
     choices, events = execution
     runs = runs_of(program, choices)
     memory = list(program[2])

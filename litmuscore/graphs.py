@@ -2,16 +2,13 @@
 
 from heapq import heapify, heappop, heappush
 from litmuscore.accesses import is_success, stored_word, writes_to
-from litmuscore.errors import InvalidExecution
-from litmuscore.executions import check, preserved
+from litmuscore.executions import preserved, require_valid
 from litmuscore.runs import access_in, events_in, last_link, last_write, runs_of, sources_in
 
 
 def communication_of(program, order, execution):
     """The communication of a valid execution."""
-    violation = check(program, order, execution)
-    if violation is not None:
-        raise InvalidExecution(violation)
+    require_valid(program, order, execution)
     choices, events = execution
     runs = runs_of(program, choices)
     found = sources_in(runs, events)

@@ -4,6 +4,7 @@ from litmuscore.tuples import with_item
 from litmuscore.words import OPERATIONS, compare, operate
 
 READING = ("load", "swap", "fetch add", "load linked")
+ATOMIC_INSTRUCTIONS = ("swap", "fetch add", "load linked", "store conditional")
 MEMORY_INSTRUCTIONS = ("load", "store", "swap", "fetch add", "load linked", "store conditional")
 
 
@@ -63,16 +64,22 @@ def with_register(registers, number, word):
     return with_item(registers, number, word)
 
 
-def computed(instruction, registers):
-    """The registers after an instruction without access."""
+def result_of(instruction, registers):
+    """The word that an operation or addi gives for its destination; None for all other instructions."""
     name = instruction[0]
     if name == "addi":
-        word = (registers[instruction[2]] + instruction[3]) % 65536
-        return with_register(registers, instruction[1], word)
+        return (registers[instruction[2]] + instruction[3]) % 65536
     if name in OPERATIONS:
-        word = operate(name, registers[instruction[2]], registers[instruction[3]])
-        return with_register(registers, instruction[1], word)
-    return registers
+        return operate(name, registers[instruction[2]], registers[instruction[3]])
+    return None
+
+
+def computed(instruction, registers):
+    """The registers after an instruction without access."""
+    word = result_of(instruction, registers)
+    if word is None:
+        return registers
+    return with_register(registers, instruction[1], word)
 
 
 def new_code_address(instruction, pc, registers):

@@ -44,6 +44,31 @@ def last_link(steps, number):
     return None
 
 
+def writes_in(runs):
+    """For each core the tuple of its writes in the order of its steps, pairs of the step and the address."""
+    return [
+        tuple([
+            (number, steps[number][1][1])
+            for number in range(len(steps))
+            if steps[number][1] is not None and is_write(steps[number][1])
+        ])
+        for steps in runs
+    ]
+
+
+def events_of_entries(written, history):
+    """The events from which the entries of a history come; written has the writes of each core, as above."""
+    rows = {}
+    for core in range(len(written)):
+        for number, address in written[core]:
+            rows.setdefault((core, address), []).append((core, number))
+    events = []
+    # The stores of a core to one address never overtake each other.
+    for core, address, _ in history:
+        events.append(rows[(core, address)].pop(0))
+    return events
+
+
 def source_in(runs, taken, written, event):
     """The source of an event that reads, after the taken events; written has the last writes so far."""
     core, number = event

@@ -1,7 +1,9 @@
 """The history machine: [102] to [108]."""
 
-from litmuscore.history import after_move, final_outcome, first_situation, found_word, is_final, word_at
-from tests.helpers import ORDERS, PLAIN, STORE_BUFFERING, ZEROS, Case, registers, together
+from litmuscore.history import final_outcome, first_situation, found_word, is_final, word_at
+from tests.helpers import (
+    ORDERS, PLAIN, STORE_BUFFERING, ZEROS, Case, Machine, effect, read, registers, stepped, together,
+)
 
 ONE = ("addi", 1, 0, 1)
 LOAD = ("load", 2, 0, 0)
@@ -9,48 +11,6 @@ STORE = ("store", 1, 0, 0)
 LINK = ("load linked", 2, 0)
 CONDITIONAL = ("store conditional", 3, 0, 1)
 BUFFERED = ("tso", "pso", "wmm")
-
-
-def stepped(core, choice=PLAIN, time=0):
-    return ("step", core, choice, time)
-
-
-def read(core, word, time=0):
-    return ("step", core, (word, False), time)
-
-
-def effect(core, index=0):
-    return ("effect", core, index)
-
-
-class Machine(Case):
-    """A test case with a situation that moves change."""
-
-    def begin(self, program, order):
-        self.program, self.order = program, order
-        self.now = first_situation(program)
-
-    def after(self, move):
-        return self.call(after_move, self.program, self.order, self.now, move)
-
-    def go(self, *moves):
-        for move in moves:
-            self.now = self.after(move)
-            self.assertIsNotNone(self.now, move)
-
-    def bars(self, *moves):
-        for move in moves:
-            self.assertIsNone(self.after(move), move)
-
-    def history(self):
-        return self.now[0]
-
-    def view(self, core):
-        return self.now[1][core]
-
-    def times(self, core):
-        """floor, top, top_store, seen and link_time of a core."""
-        return self.now[1][core][2:]
 
 
 class SituationTest(Case):

@@ -19,6 +19,28 @@ INTERFACE = {
                 "found_word(program, situation, core, address, time)",
                 "after_move(program, order, situation, move)", "is_final(situation)",
                 "final_outcome(program, situation)"),
+    "paths": ("shown_execution(program, order, moves)", "moves_for(program, order, execution)"),
+    "outcomes": ("tried_moves(program, order, situation)", "explore(program, order, *, limit=2000)",
+                 "outcomes_of(program, order, *, limit=2000)"),
+    "traces": ("explore_traces(program, order, *, limit=2000)", "graphs_of(program, order, *, limit=2000)"),
+    "caches": ("read_word(config, cache, address)", "can_write(config, cache, address)",
+               "write_word(config, cache, address, word)", "request_line(config, cache, core, line, exclusive)",
+               "give_up_line(cache, core, line)", "cache_receives(cache, message)"),
+    "directory": ("can_receive(home, message)", "home_receives(config, home, words, message)"),
+    "network": ("start_system(program, config)", "deliverable(system)", "next_system(config, system, action)",
+                "written(config, system, core, address, word)", "coherent_word(config, system, address)",
+                "work(system)"),
+    "pipelines": ("start_pipeline(program, core)", "predicted(program, pc, successor, value)",
+                  "destination(instruction)", "operand(pipeline, index, number)",
+                  "fetch(program, config, pipeline, successor, value)", "execute(pipeline, index)",
+                  "resolve(program, pipeline, index)", "readable_word(config, pipeline, cache, index)",
+                  "load(config, pipeline, cache, index, time)"),
+    "commits": ("visible_word(config, pipeline, cache, address)", "commit(config, pipeline, cache, time)",
+                "drain(config, pipeline, cache, index)", "keep_reservation(config, pipeline, cache)"),
+}
+CLASSES = {
+    "configs": ("Config(order, *, reorder_buffer=4, store_buffer=2, line_words=1, sets=1, ways=4, requests=1, "
+                "exclusive_state=True)",),
 }
 
 
@@ -30,3 +52,12 @@ class InterfaceTest(unittest.TestCase):
                 function = getattr(module, line[:line.index("(")])
                 self.assertEqual(function.__name__ + str(inspect.signature(function)), line)
                 self.assertEqual(function.__module__, module.__name__)
+
+    def test_classes_and_how_their_objects_are_made(self):
+        for name, classes in CLASSES.items():
+            module = importlib.import_module(f"litmuscore.{name}")
+            for line in classes:
+                made = getattr(module, line[:line.index("(")])
+                self.assertEqual(made.__name__ + str(inspect.signature(made)), line)
+                self.assertEqual(made.__module__, module.__name__)
+                self.assertIn("__init__", vars(made))
