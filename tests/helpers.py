@@ -30,10 +30,10 @@ def together(*cores, memory):
 
 
 def is_plain(value):
-    """True if the value consists of tuples, integers, strings, True, False and None alone."""
+    """True if the value consists of tuples, integers, strings, True, False, None and configurations alone."""
     if isinstance(value, tuple):
         return all(is_plain(part) for part in value)
-    return value is None or type(value) in (int, str, bool)
+    return value is None or type(value) in (int, str, bool, Config)
 
 
 def shown(value):
@@ -65,7 +65,7 @@ class Case(unittest.TestCase):
         before = shown(arguments)
         result = function(*arguments, **more)
         self.assertTrue(is_plain(result), result)
-        self.assertEqual(repr(function(*arguments, **more)), repr(result))
+        self.assertEqual(shown(function(*arguments, **more)), shown(result))
         self.assertEqual(shown(arguments), before)
         return result
 

@@ -4,6 +4,8 @@ import importlib
 import inspect
 import unittest
 
+from litmuscore.simulator import Simulator
+
 INTERFACE = {
     "words": ("signed(word)", "operate(operation, left, right)", "compare(relation, left, right)"),
     "programs": ("start_state(program, core)", "step(program, state, choice)", "run(program, core, choices)"),
@@ -37,11 +39,32 @@ INTERFACE = {
                   "load(config, pipeline, cache, index, time)"),
     "commits": ("visible_word(config, pipeline, cache, address)", "commit(config, pipeline, cache, time)",
                 "drain(config, pipeline, cache, index)", "keep_reservation(config, pipeline, cache)"),
+    "machine": ("start_machine(program, config)", "after_action(program, config, machine, action)",
+                "possible_actions(program, config, machine)", "is_finished(machine)", "reported(machine)",
+                "machine_outcome(config, machine)"),
+    "service": ("obtain(config, machine, core, line, exclusive)", "next_action(program, config, machine, core)",
+                "serve(program, config, machine, core, *, most=1000)",
+                "run_to_end(program, config, machine, *, rounds=60)"),
+    "realization": ("realize(program, order, execution)",),
+    "litmus": ("holds(condition, values)", "observed_values(test, result)", "decide(test, order, *, limit=2000)"),
+    "fences": ("slots_of(program)", "fences_of(program)", "with_plan(program, plan)", "plan_cost(plan, costs)",
+               "plans(many)", "is_sufficient(test, order, wanted, plan, *, limit=2000)",
+               "cheapest(test, order, wanted, costs, *, limit=2000)",
+               "check_certificate(test, order, wanted, costs, plan, certificate, *, limit=2000)",
+               "barring(program, order, execution)", "needless(test, order, *, limit=2000)"),
+    "tokens": ("tokens_of(line)",),
+    "reader": ("read_test(text)",),
+    "printer": ("show_test(test)",),
 }
 CLASSES = {
     "configs": ("Config(order, *, reorder_buffer=4, store_buffer=2, line_words=1, sets=1, ways=4, requests=1, "
                 "exclusive_state=True)",),
+    "errors": ("InvalidExecution(violation)", "TooManySituations(limit)", "TooManySlots(many)",
+               "ActionNotPossible(place)", "TextError(line, column)"),
+    "simulator": ("Simulator(program, config)",),
 }
+METHODS = ("apply(self, action)", "perform(self, actions)", "serve(self, core, *, most=1000)",
+           "run_to_end(self, *, rounds=60)", "execution(self)", "outcome(self)")
 
 
 class InterfaceTest(unittest.TestCase):
@@ -61,3 +84,10 @@ class InterfaceTest(unittest.TestCase):
                 self.assertEqual(made.__name__ + str(inspect.signature(made)), line)
                 self.assertEqual(made.__module__, module.__name__)
                 self.assertIn("__init__", vars(made))
+
+    def test_the_methods_of_simulators(self):
+        for line in METHODS:
+            method = vars(Simulator)[line[:line.index("(")]]
+            self.assertEqual(method.__name__ + str(inspect.signature(method)), line)
+        for name in ("time", "finished"):
+            self.assertIsInstance(vars(Simulator)[name], property)

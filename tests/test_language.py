@@ -143,10 +143,13 @@ class LanguageTest(unittest.TestCase):
     def test_names(self):
         for path, tree in self.trees.items():
             imported = {alias.asname or alias.name for node in imports_of(tree) for alias in node.names}
+            methods = [(node.name, node.lineno) for part in tree.body if isinstance(part, ast.ClassDef)
+                       for node in part.body if isinstance(node, ast.FunctionDef)]
             for name, line in bound_names(tree):
                 place = f"{path.name}:{line} {name}"
                 self.assertNotIn(name, vars(builtins), place)
-                self.assertNotIn(name, imported, place)
+                # A method is read off its object, and so may have the name of an import.
+                self.assertTrue(name not in imported or (name, line) in methods, place)
                 self.assertNotIn(name, NOWHERE | WORDS, place)
                 self.assertRegex(name, r"\A(_|_?[A-Za-z][A-Za-z0-9_]*|__(init|enter|exit|call|iter)__)\Z", place)
 

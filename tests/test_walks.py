@@ -10,13 +10,7 @@ from litmuscore.outcomes import outcomes_of
 from litmuscore.traces import graphs_of
 from tests.helpers import ORDERS, STORE_BUFFERING
 from tests.small import PROGRAMS
-from tests.walks import Walk, random_program
-
-
-def random_config(draw, order):
-    return Config(order, reorder_buffer=draw.choice((1, 2, 4, 6)), store_buffer=draw.choice((1, 2, 3)),
-                  line_words=draw.choice((1, 2)), sets=draw.choice((1, 2)), ways=draw.choice((1, 2, 4)),
-                  requests=draw.choice((1, 2)), exclusive_state=draw.choice((True, False)))
+from tests.walks import Walk, random_config, random_program
 
 
 class WalkTest(unittest.TestCase):

@@ -3,6 +3,7 @@
 import random
 
 from litmuscore.commits import commit, drain, keep_reservation
+from litmuscore.configs import Config
 from litmuscore.network import coherent_word, deliverable, next_system, start_system
 from litmuscore.pipelines import execute, fetch, load, resolve, start_pipeline
 
@@ -38,8 +39,12 @@ def random_program(draw, *, cores=2, size=5, words=2):
     return (code, entries, tuple(draw.randrange(3) for _ in range(words)))
 
 
+KINDS = ("fetch", "execute", "resolve", "load", "load", "commit", "drain", "request", "request", "deliver", "deliver",
+         "deliver", "deliver")
+
+
 class Walk:
-    """A machine that performs random actions; what it reports must be a valid execution."""
+    """A machine, put together from its parts, that performs random actions."""
 
     def __init__(self, program, config, seed):
         self.program, self.config = program, config
@@ -50,7 +55,9 @@ class Walk:
         self.system = start_system(program, config)
         self.choices = [() for _ in self.cores]
         self.marks = []
-        self.memory = list(program[2])
+
+    def machine(self):
+        return (self.time, tuple(self.pipelines), self.system, tuple(self.choices), tuple(self.marks))
 
     def finished(self):
         return all(state[2] and not any(entry[0] == "store" for entry in buffer)
@@ -58,16 +65,40 @@ class Walk:
 
     def walk(self, most):
         """Perform random actions until the machine is finished, or until most were tried."""
-        kinds = (self.fetch, self.execute, self.resolve, self.load, self.load, self.commit, self.drain, self.request,
-                 self.request, self.deliver, self.deliver, self.deliver, self.deliver)
         for _ in range(most):
             if self.finished():
                 return
-            act = self.evict if self.draw.random() < 0.02 else self.draw.choice(kinds)
-            if act(self.draw.choice(self.cores)):
-                self.time += 1
-                self.pipelines = [keep_reservation(self.config, self.pipelines[core], self.system[0][core])
-                                  for core in self.cores]
+            self.perform(self.random_action())
+
+    def random_action(self):
+        """An action of some kind, which need not be possible."""
+        core = self.draw.choice(self.cores)
+        kind = "evict" if self.draw.random() < 0.02 else self.draw.choice(KINDS)
+        _, entries, buffer, _, _ = self.pipelines[core]
+        line = self.draw.randrange(len(self.system[1]))
+        if kind == "fetch":
+            successor = self.draw.choice((None, self.draw.randrange(len(self.program[0]) + 1)))
+            return (kind, core, successor, self.draw.choice((None, self.draw.randrange(3))))
+        if kind in ("execute", "resolve", "load"):
+            return (kind, core, self.draw.randrange(len(entries) + 1))
+        if kind == "commit":
+            return (kind, core)
+        if kind == "drain":
+            return (kind, core, self.draw.randrange(len(buffer) + 1))
+        if kind == "request":
+            return (kind, core, line, self.draw.random() < 0.6)
+        if kind == "evict":
+            return (kind, core, line)
+        return (kind, self.draw.choice(deliverable(self.system) or (0, 1)))
+
+    def perform(self, action):
+        """Perform the action if it is possible; True if it was."""
+        possible = getattr(self, action[0])(action)
+        if possible:
+            self.time += 1
+            self.pipelines = [keep_reservation(self.config, self.pipelines[core], self.system[0][core])
+                              for core in self.cores]
+        return possible
 
     def replaced(self, core, pipeline):
         if pipeline is not None:
@@ -79,25 +110,22 @@ class Walk:
         caches[core] = cache
         self.system = (tuple(caches),) + self.system[1:]
 
-    def fetch(self, core):
-        successor = self.draw.choice((None, self.draw.randrange(len(self.program[0]) + 1)))
-        value = self.draw.choice((None, self.draw.randrange(3)))
+    def fetch(self, action):
+        _, core, successor, value = action
         return self.replaced(core, fetch(self.program, self.config, self.pipelines[core], successor, value))
 
-    def index(self, core):
-        return self.draw.randrange(len(self.pipelines[core][1]) + 1)
+    def execute(self, action):
+        return self.replaced(action[1], execute(self.pipelines[action[1]], action[2]))
 
-    def execute(self, core):
-        return self.replaced(core, execute(self.pipelines[core], self.index(core)))
+    def resolve(self, action):
+        return self.replaced(action[1], resolve(self.program, self.pipelines[action[1]], action[2]))
 
-    def resolve(self, core):
-        return self.replaced(core, resolve(self.program, self.pipelines[core], self.index(core)))
+    def load(self, action):
+        _, core, index = action
+        return self.replaced(core, load(self.config, self.pipelines[core], self.system[0][core], index, self.time))
 
-    def load(self, core):
-        cache = self.system[0][core]
-        return self.replaced(core, load(self.config, self.pipelines[core], cache, self.index(core), self.time))
-
-    def commit(self, core):
+    def commit(self, action):
+        core = action[1]
         step = self.pipelines[core][4]
         done = commit(self.config, self.pipelines[core], self.system[0][core], self.time)
         if done is None:
@@ -110,8 +138,8 @@ class Walk:
             self.marks.append((mark, core, step))
         return True
 
-    def drain(self, core):
-        index = self.draw.randrange(len(self.pipelines[core][2]) + 1)
+    def drain(self, action):
+        _, core, index = action
         done = drain(self.config, self.pipelines[core], self.system[0][core], index)
         if done is None:
             return False
@@ -120,23 +148,13 @@ class Walk:
         self.marks.append((self.time, core, step))
         return True
 
-    def moved(self, system):
+    def in_system(self, action):
+        system = next_system(self.config, self.system, action)
         if system is not None:
             self.system = system
         return system is not None
 
-    def request(self, core):
-        line = self.draw.randrange(len(self.system[1]))
-        return self.moved(next_system(self.config, self.system, ("request", core, line, self.draw.random() < 0.6)))
-
-    def evict(self, core):
-        line = self.draw.randrange(len(self.system[1]))
-        return self.moved(next_system(self.config, self.system, ("evict", core, line)))
-
-    def deliver(self, core):
-        indices = deliverable(self.system)
-        return bool(indices) and self.moved(
-            next_system(self.config, self.system, ("deliver", self.draw.choice(indices))))
+    request = evict = deliver = in_system
 
     def execution(self):
         return (tuple(self.choices), tuple((core, step) for _, core, step in sorted(self.marks)))
@@ -144,3 +162,10 @@ class Walk:
     def outcome(self):
         words = [coherent_word(self.config, self.system, address) for address in range(len(self.program[2]))]
         return (tuple(pipeline[0] for pipeline in self.pipelines), tuple(words))
+
+
+def random_config(draw, order):
+    """A configuration of small sizes."""
+    return Config(order, reorder_buffer=draw.choice((1, 2, 4, 6)), store_buffer=draw.choice((1, 2, 3)),
+                  line_words=draw.choice((1, 2)), sets=draw.choice((1, 2)), ways=draw.choice((1, 2, 4)),
+                  requests=draw.choice((1, 2)), exclusive_state=draw.choice((True, False)))
